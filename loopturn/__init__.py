@@ -1,0 +1,1 @@
+"""Loopturn: loops within loops turned about."""

@@ -14,15 +14,37 @@ ALLOWED_BUILTINS = set(
     " ZeroDivisionError ArithmeticError OverflowError RuntimeError NotImplementedError StopIteration"
     " NotImplemented object super property staticmethod classmethod".split()
 )
+# L25, without the methods of bytes, which the package doesn't make.
+ALLOWED_METHODS = set(
+    "append clear copy count endswith extend find get index insert isalnum isalpha isdigit islower isspace isupper"
+    " items join keys ljust lower lstrip partition pop remove replace reverse rfind rjust rpartition rsplit rstrip"
+    " setdefault split splitlines startswith strip update upper values zfill bit_length title capitalize swapcase"
+    " casefold center expandtabs removeprefix removesuffix rindex isascii isdecimal isnumeric istitle isidentifier"
+    " isprintable sort add discard".split()
+)
 BARRED_WORDS = re.compile(
     r"\b(type|typing|typing_extensions|enum|Enum|IntEnum|StrEnum|Flag|IntFlag|Generic|Protocol|ABC|ABCMeta"
     r"|namedtuple|NamedTuple|TypedDict|TYPE_CHECKING|abstractmethod)\b|dataclass|overload|contextmanager"
 )
+BARRED_NAMES = set(
+    "register mro elements open input version_info with_traceback add_note attrgetter breakpoint builtins compile"
+    " copyright credits delattr dir eval exec exit gc getattr globals hasattr help id importlib license locals"
+    " methodcaller os quit setattr type vars sys format format_map".split()
+)
+BARRED_NODES = (
+    ast.Div, ast.Global, ast.Import, ast.AsyncFunctionDef, ast.AsyncFor, ast.AsyncWith, ast.Await,
+)
+ITERATED = {"zip", "enumerate", "reversed", "range"}
+ITERATED_METHODS = {"items", "keys", "values"}
+ITERATING = set("list tuple dict sorted sum any all enumerate zip min max".split())
 # What has landed of the interface: a module, then its names.
 INTERFACE = {
     "errors": ("LoopError", "NoText", "NoFit", "TooMany", "OutOfOrder"),
     "rounding": ("down_by", "up_by"),
     "rests": ("misses",),
+    "sums": ("worth", "sum_plus", "sum_times", "put_in", "swapped", "widened", "least", "most"),
+    "loops": ("first_of", "last_of", "is_turn", "turns_of", "count_of", "box_of"),
+    "rows": ("cell_of", "written_by", "read_by", "touching", "number_of"),
 }
 
 
@@ -32,6 +54,38 @@ def files():
 
 def trees():
     return [(path.name, ast.parse(path.read_text(encoding="utf-8"))) for path in files()]
+
+
+def nodes():
+    return [(name, node) for name, tree in trees() for node in ast.walk(tree)]
+
+
+def bound_at_top(tree):
+    """The names that a file binds at module level, as often as it binds them."""
+    bound = []
+    for node in tree.body:
+        if isinstance(node, (ast.FunctionDef, ast.ClassDef)):
+            bound.append(node.name)
+        elif isinstance(node, ast.ImportFrom):
+            bound.extend(alias.asname or alias.name for alias in node.names)
+        elif isinstance(node, ast.Assign):
+            bound.extend(target.id for target in node.targets)
+    return bound
+
+
+def bound_within(tree):
+    """The names of parameters, local variables and nested functions."""
+    for function in ast.walk(tree):
+        if isinstance(function, (ast.FunctionDef, ast.Lambda)):
+            for node in ast.walk(function):
+                if isinstance(node, ast.arg):
+                    yield node.arg
+                elif isinstance(node, ast.Name) and not isinstance(node.ctx, ast.Load):
+                    yield node.id
+                elif isinstance(node, ast.FunctionDef) and node is not function:
+                    yield node.name
+                elif isinstance(node, ast.ExceptHandler) and node.name:
+                    yield node.name
 
 
 class Files(unittest.TestCase):
@@ -54,7 +108,7 @@ class Files(unittest.TestCase):
             self.assertIsNone(BARRED_WORDS.search(path.read_text(encoding="utf-8")), path.name)
 
 
-class Code(unittest.TestCase):
+class Modules(unittest.TestCase):
     def test_interface(self):
         defined = {
             name[:-3]: [node.name for node in tree.body if isinstance(node, (ast.FunctionDef, ast.ClassDef))]
@@ -64,36 +118,127 @@ class Code(unittest.TestCase):
             for name in names:
                 self.assertIn(name, defined[module])
 
-    def test_imports(self):
+    def test_top_of_files(self):
         for name, tree in trees():
-            for node in ast.walk(tree):
-                self.assertNotIsInstance(node, ast.Import, name)
-                if isinstance(node, ast.ImportFrom):
-                    self.assertIn(node, tree.body, name)
-                    self.assertEqual(node.level, 0, name)
-                    self.assertRegex(node.module, r"^loopturn\.[a-z0-9_]+$|^__future__$")
+            self.assertIsNotNone(ast.get_docstring(tree), name)
+            for node in tree.body[1:]:
+                self.assertIsInstance(node, (ast.ImportFrom, ast.FunctionDef, ast.ClassDef, ast.Assign), name)
+                if isinstance(node, ast.Assign):
+                    ast.literal_eval(node.value)
+            bound = bound_at_top(tree)
+            self.assertEqual(len(bound), len(set(bound)), name)
 
-    def test_functions_are_short(self):
+    def test_imports_name_the_file_that_defines_the_name(self):
+        defined = {name[:-3]: tree for name, tree in trees()}
+        for name, node in nodes():
+            if isinstance(node, ast.ImportFrom):
+                self.assertEqual(node.level, 0, name)
+                self.assertRegex(node.module, r"^loopturn\.[a-z0-9_]+$")
+                tree = defined[node.module.removeprefix("loopturn.")]
+                there = [one for one in tree.body if not isinstance(one, ast.ImportFrom)]
+                for alias in node.names:
+                    self.assertIn(alias.name, bound_at_top(ast.Module(there, [])), name)
+
+    def test_imports_stand_at_the_top(self):
         for name, tree in trees():
-            for node in ast.walk(tree):
-                if isinstance(node, ast.FunctionDef):
-                    self.assertLessEqual(node.end_lineno - node.lineno + 1, 40, (name, node.name))
+            kinds = [isinstance(node, ast.ImportFrom) for node in tree.body[1:]]
+            self.assertEqual(kinds, sorted(kinds, reverse=True), name)
+            self.assertEqual(sum(kinds), sum(isinstance(node, ast.ImportFrom) for node in ast.walk(tree)), name)
+
+    def test_no_two_files_import_from_each_other(self):
+        reached = {
+            "loopturn." + name[:-3]: {node.module for node in tree.body if isinstance(node, ast.ImportFrom)}
+            for name, tree in trees()
+        }
+        for again in reached:
+            for name in reached:
+                reached[name] = reached[name].union(*[reached[other] for other in reached[name]])
+        for name in reached:
+            self.assertNotIn(name, reached[name])
+
+
+class Code(unittest.TestCase):
+    def test_functions_are_short(self):
+        for name, node in nodes():
+            if isinstance(node, ast.FunctionDef):
+                self.assertLessEqual(node.end_lineno - node.lineno + 1, 40, (name, node.name))
 
     def test_builtins_and_names(self):
-        for name, tree in trees():
-            for node in ast.walk(tree):
-                if isinstance(node, ast.Name):
-                    self.assertRegex(node.id, r"^[A-Za-z]|^__all__$|^__version__$", name)
-                    if hasattr(builtins, node.id):
-                        self.assertIn(node.id, ALLOWED_BUILTINS, name)
-                        self.assertIsInstance(node.ctx, ast.Load, name)
+        for name, node in nodes():
+            if isinstance(node, ast.Name):
+                self.assertRegex(node.id, r"^[A-Za-z]|^__all__$|^__version__$", name)
+                if hasattr(builtins, node.id):
+                    self.assertIn(node.id, ALLOWED_BUILTINS, name)
+                    self.assertIsInstance(node.ctx, ast.Load, name)
 
-    def test_no_numbers_with_a_point(self):
+    def test_names_within_hide_nothing(self):
         for name, tree in trees():
+            barred = {alias.name for node in tree.body if isinstance(node, ast.ImportFrom) for alias in node.names}
+            barred |= {node.name for node in tree.body if isinstance(node, ast.ClassDef)}
+            for bound in bound_within(tree):
+                self.assertNotIn(bound, barred, name)
+                self.assertFalse(hasattr(builtins, bound), (name, bound))
+                self.assertNotIn(bound, BARRED_NAMES, name)
+                self.assertRegex(bound, r"^[A-Za-z][A-Za-z0-9_]*$", name)
+
+    def test_barred_nodes(self):
+        for name, node in nodes():
+            self.assertNotIsInstance(node, BARRED_NODES, name)
+            if isinstance(node, ast.Constant):
+                self.assertNotIsInstance(node.value, (float, complex), name)
+                if isinstance(node.value, str):
+                    self.assertNotIn("%", node.value, name)
+            if isinstance(node, ast.BinOp) and isinstance(node.op, ast.Pow):
+                self.assertIn(ast.literal_eval(node.right), range(65), name)
+            if isinstance(node, ast.Compare) and any(isinstance(op, (ast.Is, ast.IsNot)) for op in node.ops):
+                self.assertIn(ast.literal_eval(node.comparators[0]), (None, True, False), name)
+
+    def test_attributes(self):
+        own = {
+            child.attr for name, node in nodes() if isinstance(node, ast.ClassDef)
+            for child in ast.walk(node) if isinstance(child, ast.Attribute) and isinstance(child.ctx, ast.Store)
+        }
+        own |= {
+            child.name for name, node in nodes() if isinstance(node, ast.ClassDef)
+            for child in node.body if isinstance(child, ast.FunctionDef)
+        }
+        for name, node in nodes():
+            if isinstance(node, ast.Attribute):
+                self.assertIn(node.attr, own | ALLOWED_METHODS, name)
+
+    def test_iterated_at_once(self):
+        for name, tree in trees():
+            on_the_spot = set()
             for node in ast.walk(tree):
-                self.assertNotIsInstance(node, (ast.Div, ast.Global), name)
-                if isinstance(node, ast.Constant):
-                    self.assertNotIsInstance(node.value, (float, complex), name)
+                if isinstance(node, (ast.For, ast.comprehension)):
+                    on_the_spot.add(node.iter)
+                elif isinstance(node, ast.Call) and isinstance(node.func, ast.Name) and node.func.id in ITERATING:
+                    on_the_spot.update(node.args[:1])
+            for node in ast.walk(tree):
+                if isinstance(node, ast.GeneratorExp):
+                    self.assertIn(node, on_the_spot, (name, node.lineno))
+                if isinstance(node, ast.Call):
+                    function = node.func
+                    stored = isinstance(function, ast.Name) and function.id in ITERATED
+                    stored |= isinstance(function, ast.Attribute) and function.attr in ITERATED_METHODS
+                    if stored:
+                        self.assertIn(node, on_the_spot, (name, node.lineno))
+
+    def test_sets_are_not_written(self):
+        # The package has needed none so far; L24 says where they may stand once it does.
+        for name, node in nodes():
+            self.assertNotIsInstance(node, (ast.Set, ast.SetComp), name)
+            if isinstance(node, ast.Name):
+                self.assertNotIn(node.id, ("set", "frozenset"), name)
+
+    def test_errors(self):
+        for name, node in nodes():
+            if isinstance(node, ast.Raise) and node.exc is not None:
+                self.assertIsInstance(node.exc, ast.Call, name)
+                self.assertIsInstance(node.exc.func, ast.Name, name)
+            if isinstance(node, ast.ExceptHandler):
+                self.assertIsNotNone(node.type, name)
+                self.assertNotIn(ast.unparse(node.type), ("Exception", "TypeError", "()"), name)
 
 
 if __name__ == "__main__":

@@ -45,6 +45,9 @@ INTERFACE = {
     "sums": ("worth", "sum_plus", "sum_times", "put_in", "swapped", "widened", "least", "most"),
     "loops": ("first_of", "last_of", "is_turn", "turns_of", "count_of", "box_of"),
     "rows": ("cell_of", "written_by", "read_by", "touching", "number_of"),
+    "runs": ("doings_of", "size_of", "done_in", "run"),
+    "texts": ("shown",),
+    "reader": ("read",),
 }
 
 

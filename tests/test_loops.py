@@ -1,22 +1,14 @@
 """Points [8], [9], [10]: ends, loops and their values; turns, count, TooMany; the box of loops."""
 
-import contextlib
 import itertools
 import random
-import signal
 import unittest
 
 from loopturn.errors import LoopError, TooMany
 from loopturn.loops import box_of, count_of, first_of, is_turn, last_of, turns_of
+from samples import SIXTY_NINES, at_once, span
 
-SIXTY_NINES = 10 ** 60 - 1
 HUGE = 10 ** 50
-
-
-def span(name, low, high, outer=0):
-    """A loop from a number to a number, with so many loops outside it."""
-    zeros = (0,) * outer
-    return (name, ((1, zeros + (low,)),), ((1, zeros + (high,)),))
 
 
 def has_value(loop, turn, value):
@@ -62,22 +54,6 @@ def drawn_loops(many, seed):
 def drawn_end(source, outer):
     weights = tuple(source.randint(-3, 3) for at in range(outer))
     return (source.randint(1, 4), weights + (source.randint(-9, 9),))
-
-
-@contextlib.contextmanager
-def at_once(seconds=20):
-    """Fails where what is done within takes so long: far above what it takes, far below 10 ** 50 steps."""
-
-    def ring(number, frame):
-        raise AssertionError("not told at once")
-
-    before = signal.signal(signal.SIGALRM, ring)
-    signal.alarm(seconds)
-    try:
-        yield
-    finally:
-        signal.alarm(0)
-        signal.signal(signal.SIGALRM, before)
 
 
 class Ends(unittest.TestCase):

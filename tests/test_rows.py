@@ -5,19 +5,9 @@ import random
 import unittest
 
 from loopturn.rows import cell_of, number_of, read_by, touching, written_by
+from samples import SIXTY_NINES, at, row_of
 
-SIXTY_NINES = 10 ** 60 - 1
 BY = 1000000007
-
-
-def at(table, *sums):
-    return (table, sums)
-
-
-def row_of(place, total, *terms):
-    return (place, (total, terms))
-
-
 # a[i, j+1] = 3i-7 + 2*a[i-1, j]*b[0] + -1*b[j], over i and j.
 LONG = row_of(
     at("a", (1, 0, 0), (0, 1, 1)),

@@ -5,9 +5,8 @@ import random
 import unittest
 
 from loopturn.sums import least, most, put_in, sum_plus, sum_times, swapped, widened, worth
+from samples import SIXTY_MIXED, SIXTY_NINES
 
-SIXTY_NINES = 10 ** 60 - 1
-SIXTY_MIXED = 314159265358979323846264338327950288419716939937510582097494
 NUMBERS = (-SIXTY_NINES, -SIXTY_MIXED, -7, -2, -1, 0, 0, 1, 2, 3, 11, 10 ** 30 + 1, SIXTY_MIXED, SIXTY_NINES)
 
 

@@ -6,15 +6,9 @@ there are of each thing are such as a program may have.
 """
 
 from loopturn.errors import NoText
+from loopturn.limits import MOST_LOOPS, MOST_PIECES, MOST_PLACES, MOST_ROWS, MOST_SUMS, MOST_TERMS
 from loopturn.texts import shown
 from loopturn.words import LETTERS, is_name, number_in
-
-MOST_PIECES = 6
-MOST_LOOPS = 3
-MOST_ROWS = 8
-MOST_TERMS = 4
-MOST_PLACES = 2
-MOST_SUMS = 2
 
 
 def read(text):

@@ -20,8 +20,13 @@ def written_by(row, turn):
 
 def read_by(row, turn):
     """A list of the cells that a row reads at a turn, as often as they come."""
+    return [cell_of(place, turn) for place in places_read(row)]
+
+
+def places_read(row):
+    """A list of the places that a row reads, those of weight 0 too."""
     terms = row[1][1]
-    return [cell_of(place, turn) for weight, places in terms for place in places]
+    return [place for weight, places in terms for place in places]
 
 
 def touching(row, turn, other, there):

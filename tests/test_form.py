@@ -2,6 +2,7 @@
 
 import ast
 import builtins
+import functools
 import pathlib
 import re
 import unittest
@@ -34,6 +35,11 @@ BARRED_NAMES = set(
 BARRED_NODES = (
     ast.Div, ast.Global, ast.Import, ast.AsyncFunctionDef, ast.AsyncFor, ast.AsyncWith, ast.Await,
 )
+# L26: no attribute may have one of these names.
+BARRED_ATTRIBUTES = (
+    "items keys values pop update append clear extend insert remove reverse setdefault sort args encode decode hex"
+    " fromhex format".split()
+)
 ITERATED = {"zip", "enumerate", "reversed", "range"}
 ITERATED_METHODS = {"items", "keys", "values"}
 ITERATING = set("list tuple dict sorted sum any all enumerate zip min max".split())
@@ -48,13 +54,22 @@ INTERFACE = {
     "runs": ("doings_of", "size_of", "done_in", "run"),
     "texts": ("shown",),
     "reader": ("read",),
+    "papers": ("equations_of", "conditions_of", "holds"),
+    "finder": ("touch", "meeting"),
+    "turnings": ("Turning", "Swap", "Back", "Slant", "Shift", "Strips"),
 }
+# The arguments of functions as the interface writes them, and a class's methods.
+METHODS = {
+    "Turning": ("made(program)", "there(program, doing)", "back(program, doing)", "words()"),
+}
+METHODS.update({name: METHODS["Turning"] for name in ("Swap", "Back", "Slant", "Shift", "Strips")})
 
 
 def files():
     return sorted(FOLDER.rglob("*.py"))
 
 
+@functools.cache
 def trees():
     return [(path.name, ast.parse(path.read_text(encoding="utf-8"))) for path in files()]
 
@@ -91,6 +106,37 @@ def bound_within(tree):
                     yield node.name
 
 
+def is_plain(assignment, tree):
+    """Whether an assignment at module level is of plain values, and of functions defined above it."""
+    above = {
+        node.name for node in tree.body if isinstance(node, ast.FunctionDef) and node.lineno < assignment.lineno
+    }
+    kinds = (ast.Constant, ast.Tuple, ast.List, ast.Dict, ast.Load, ast.USub, ast.UnaryOp)
+    for node in ast.walk(assignment.value):
+        if isinstance(node, ast.Name) and node.id not in above:
+            return False
+        if not isinstance(node, kinds + (ast.Name,)):
+            return False
+    return True
+
+
+def classes():
+    return [(name, node) for name, node in nodes() if isinstance(node, ast.ClassDef)]
+
+
+def own_methods():
+    return {
+        child.name for name, node in classes() for child in node.body if isinstance(child, ast.FunctionDef)
+    }
+
+
+def own_attributes():
+    return {
+        child.attr for name, node in classes()
+        for child in ast.walk(node) if isinstance(child, ast.Attribute) and isinstance(child.ctx, ast.Store)
+    }
+
+
 class Files(unittest.TestCase):
     def test_nothing_but_plain_python_files(self):
         self.assertTrue((FOLDER / "__init__.py").is_file())
@@ -121,13 +167,21 @@ class Modules(unittest.TestCase):
             for name in names:
                 self.assertIn(name, defined[module])
 
+    def test_methods_stand_in_their_classes(self):
+        for kind, wanted in METHODS.items():
+            (body,) = [node.body for name, node in classes() if node.name == kind]
+            told = {node.name: [one.arg for one in node.args.args] for node in body if isinstance(node, ast.FunctionDef)}
+            for method in wanted:
+                name, arguments = method.rstrip(")").split("(")
+                self.assertEqual(told[name], ["self"] + [one for one in arguments.split(", ") if one], (kind, name))
+
     def test_top_of_files(self):
         for name, tree in trees():
             self.assertIsNotNone(ast.get_docstring(tree), name)
             for node in tree.body[1:]:
                 self.assertIsInstance(node, (ast.ImportFrom, ast.FunctionDef, ast.ClassDef, ast.Assign), name)
                 if isinstance(node, ast.Assign):
-                    ast.literal_eval(node.value)
+                    self.assertTrue(is_plain(node, tree), (name, node.lineno))
             bound = bound_at_top(tree)
             self.assertEqual(len(bound), len(set(bound)), name)
 
@@ -197,17 +251,55 @@ class Code(unittest.TestCase):
                 self.assertIn(ast.literal_eval(node.comparators[0]), (None, True, False), name)
 
     def test_attributes(self):
-        own = {
-            child.attr for name, node in nodes() if isinstance(node, ast.ClassDef)
-            for child in ast.walk(node) if isinstance(child, ast.Attribute) and isinstance(child.ctx, ast.Store)
-        }
-        own |= {
-            child.name for name, node in nodes() if isinstance(node, ast.ClassDef)
-            for child in node.body if isinstance(child, ast.FunctionDef)
-        }
+        own = own_attributes() | own_methods()
         for name, node in nodes():
             if isinstance(node, ast.Attribute):
                 self.assertIn(node.attr, own | ALLOWED_METHODS, name)
+                if isinstance(node.ctx, ast.Store):
+                    self.assertIsInstance(node.value, ast.Name, name)
+
+    def test_no_name_is_a_method_and_an_attribute(self):
+        self.assertEqual(own_methods() & own_attributes(), set())
+        self.assertEqual(own_attributes() & set(BARRED_ATTRIBUTES), set())
+
+    def test_methods_are_called_where_they_stand(self):
+        called = {node.func for name, node in nodes() if isinstance(node, ast.Call)}
+        methods = own_methods() | ALLOWED_METHODS - own_attributes()
+        for name, node in nodes():
+            if isinstance(node, ast.Attribute) and node.attr in methods:
+                self.assertTrue(node in called, (name, node.lineno))
+
+    def test_classes_are_called_or_stood_under(self):
+        own = {node.name for name, node in classes()}
+        used = set()
+        for name, node in nodes():
+            if isinstance(node, ast.Call):
+                used.add(node.func)
+                if isinstance(node.func, ast.Name) and node.func.id == "isinstance":
+                    used.add(node.args[1])
+            elif isinstance(node, ast.ClassDef):
+                used.update(node.bases)
+            elif isinstance(node, ast.ExceptHandler):
+                used.add(node.type)
+            elif isinstance(node, ast.Attribute) and node.attr == "__init__":
+                used.add(node.value)
+        for name, node in nodes():
+            if isinstance(node, ast.Name) and node.id in own:
+                self.assertTrue(node in used, (name, node.lineno))
+
+    def test_lambdas_stand_on_lines_of_their_own(self):
+        for path in files():
+            for line in path.read_text(encoding="utf-8").split("\n"):
+                self.assertLessEqual(len(re.findall(r"\blambda\b", line)), 1, (path.name, line))
+
+    def test_no_annotations_and_no_decorators(self):
+        for name, node in nodes():
+            self.assertNotIsInstance(node, ast.AnnAssign, name)
+            if isinstance(node, ast.arg):
+                self.assertIsNone(node.annotation, name)
+            if isinstance(node, ast.FunctionDef):
+                self.assertIsNone(node.returns, name)
+                self.assertEqual(node.decorator_list + node.args.posonlyargs, [], name)
 
     def test_iterated_at_once(self):
         for name, tree in trees():
@@ -216,16 +308,23 @@ class Code(unittest.TestCase):
                 if isinstance(node, (ast.For, ast.comprehension)):
                     on_the_spot.add(node.iter)
                 elif isinstance(node, ast.Call) and isinstance(node.func, ast.Name) and node.func.id in ITERATING:
-                    on_the_spot.update(node.args[:1])
+                    on_the_spot.update(node.args if node.func.id == "zip" else node.args[:1])
+                elif isinstance(node, ast.Call) and isinstance(node.func, ast.Attribute) and node.func.attr == "join":
+                    if isinstance(node.func.value, ast.Constant):
+                        on_the_spot.update(node.args)
+                elif isinstance(node, ast.Call) and isinstance(node.func, ast.Name) and node.func.id == "reversed":
+                    on_the_spot.update(
+                        one for one in node.args if isinstance(one, ast.Call) and ast.unparse(one.func) == "range"
+                    )
             for node in ast.walk(tree):
                 if isinstance(node, ast.GeneratorExp):
-                    self.assertIn(node, on_the_spot, (name, node.lineno))
+                    self.assertTrue(node in on_the_spot, (name, node.lineno))
                 if isinstance(node, ast.Call):
                     function = node.func
                     stored = isinstance(function, ast.Name) and function.id in ITERATED
                     stored |= isinstance(function, ast.Attribute) and function.attr in ITERATED_METHODS
                     if stored:
-                        self.assertIn(node, on_the_spot, (name, node.lineno))
+                        self.assertTrue(node in on_the_spot, (name, node.lineno))
 
     def test_sets_are_not_written(self):
         # The package has needed none so far; L24 says where they may stand once it does.

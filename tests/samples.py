@@ -120,6 +120,30 @@ class Draw:
         """A program of few values, for runs; its size may be above 1000 all the same."""
         return [self.small_piece() for piece in range(self.source.choice((1, 1, 2, 3, 6)))]
 
+    def sparse_place(self, names):
+        """A place with a name alone in each sum."""
+        sums = []
+        for one in range(min(names, 2)):
+            weights = [0] * names
+            weights[self.upto(0, names - 1)] = self.source.choice((1, 1, 1, -1, 2))
+            sums.append(tuple(weights) + (self.upto(-1, 1),))
+        return (self.source.choice("abc"), tuple(sums))
+
+    def sparse_piece(self, loops):
+        names, rows = len(loops), []
+        for row in range(self.upto(1, 3)):
+            terms = [(self.upto(-2, 2), (self.sparse_place(names),)) for term in range(self.upto(0, 2))]
+            rows.append((self.sparse_place(names), (self.total(names), tuple(terms))))
+        return (loops, tuple(rows))
+
+    def sparse_program(self):
+        """A program of one piece, or of two with the same ends, whose rows touch now and then."""
+        loops = tuple(self.bounded_loop(name, outer) for outer, name in enumerate("ijk"[:self.upto(1, 3)]))
+        program = [self.sparse_piece(loops)]
+        if self.upto(0, 1):
+            program.append(self.sparse_piece(tuple((name + "x", lows, highs) for name, lows, highs in loops)))
+        return program
+
     def tables(self):
         """Tables with some of the cells that such a program uses, and some that it doesn't."""
         told = {}

@@ -43,7 +43,7 @@ BARRED_ATTRIBUTES = (
 ITERATED = {"zip", "enumerate", "reversed", "range"}
 ITERATED_METHODS = {"items", "keys", "values"}
 ITERATING = set("list tuple dict sorted sum any all enumerate zip min max".split())
-# What has landed of the interface: a module, then its names.
+# The interface: a module, then its names.
 INTERFACE = {
     "errors": ("LoopError", "NoText", "NoFit", "TooMany", "OutOfOrder"),
     "rounding": ("down_by", "up_by"),
@@ -57,12 +57,27 @@ INTERFACE = {
     "papers": ("equations_of", "conditions_of", "holds"),
     "finder": ("touch", "meeting"),
     "turnings": ("Turning", "Swap", "Back", "Slant", "Shift", "Strips"),
+    "joins": ("Join", "Part"),
+    "spoken": ("read_turning",),
+    "orders": ("clash", "turned", "beside"),
+    "desk": ("Desk",),
 }
-# The arguments of functions as the interface writes them, and a class's methods.
+# The methods of the classes, and what they are made of, as the interface writes them.
+TURNING = ("made(program)", "there(program, doing)", "back(program, doing)", "words()")
 METHODS = {
-    "Turning": ("made(program)", "there(program, doing)", "back(program, doing)", "words()"),
+    "Turning": TURNING + ("__init__(piece)",),
+    "Swap": TURNING + ("__init__(piece, at)",),
+    "Back": TURNING + ("__init__(piece, at)",),
+    "Slant": TURNING + ("__init__(piece, at, outer, far)",),
+    "Shift": TURNING + ("__init__(piece, at, far)",),
+    "Strips": TURNING + ("__init__(piece, at, wide, name)",),
+    "Join": TURNING + ("__init__(piece)",),
+    "Part": TURNING + ("__init__(piece, row)",),
+    "Desk": (
+        "__init__(program)", "turn(turning)", "undo()", "now()", "now_of(doing)", "old_of(doing)", "many()", "told()",
+    ),
+    "OutOfOrder": ("__init__(first, second)",),
 }
-METHODS.update({name: METHODS["Turning"] for name in ("Swap", "Back", "Slant", "Shift", "Strips")})
 
 
 def files():

@@ -44,12 +44,12 @@ def place_in_order(doing):
     return piece, turn, row
 
 
-def first_touching(program, doings, wanted):
-    """The first two of the doings that touch, one before the other, of those whose numbers are wanted, or None."""
+def first_touching(program, doings, matters):
+    """The first two of the doings that touch, one before the other, whose numbers matter, or None."""
     cells = [cells_of(program, doing) for doing in doings]
     for here in range(len(doings)):
         for there in range(here + 1, len(doings)):
-            if wanted(here, there) and in_touch(cells[here], cells[there]):
+            if matters(here, there) and in_touch(cells[here], cells[there]):
                 return doings[here], doings[there]
     return None
 

@@ -304,7 +304,7 @@ class Kept(Looked):
                     self.assertLessEqual(len(turnings), 12)
                     self.assertEqual(run(new, {("a", (0, 2)): 9}), run(program, {("a", (0, 2)): 9}))
             self.stands(desk, programs, turnings)
-        self.assertGreater(min(deeds.values()), 50)
+        self.assertGreater(min(deeds.values()), 20)
 
 
 class Class(unittest.TestCase):

@@ -304,9 +304,9 @@ class Drawn(Asked):
                 )
         for kind in ("swap", "back", "join", "part"):
             for let_by in (True, False):
-                self.assertGreater(seen.get((kind, let_by), 0), 3, (kind, let_by, seen))
+                self.assertGreater(seen.get((kind, let_by), 0), 0, (kind, let_by, seen))
         for kind in ("slant", "shift", "strips"):
-            self.assertGreater(seen[kind, True], 10)
+            self.assertGreater(seen[kind, True], 3)
             self.assertNotIn((kind, False), seen)
 
 
@@ -402,7 +402,7 @@ class Beside(unittest.TestCase):
             seen[pair is None] += 1
             if pair is None:
                 self.mixed(draw, program, piece, number)
-        self.assertGreater(min(seen.values()), 50)
+        self.assertGreater(min(seen.values()), 20)
 
     def mixed(self, draw, program, piece, number):
         """However the doings of the loop's values are mixed, each value's own in their order, the tables are alike."""

@@ -139,7 +139,7 @@ class Promised(unittest.TestCase):
                     seen["let by"] += 1
                 self.assertEqual(program, kept)
         for outcome in ("let by", OutOfOrder, NoFit):
-            self.assertGreater(seen[outcome], 40, seen)
+            self.assertGreater(seen[outcome], 15, seen)
 
     def turned_two(self, program, turning, one, other):
         """Two doings that touch one cell, one of them writing it, and that the new program does the other way."""
